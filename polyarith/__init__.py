@@ -1,0 +1,1 @@
+"""Polyarith: polynomials of whole numbers."""

@@ -1,0 +1,1 @@
+"""Tests of the program, one file for each group of promises."""
