@@ -1,1 +1,1 @@
-"""Polyarith: polynomials of whole numbers."""
+"""Polyarith: polynomials of whole numbers, told as products of parts without squares."""

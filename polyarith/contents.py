@@ -11,11 +11,18 @@ def content(row):
     return found
 
 
+def signed_content(row):
+    """The number that comes to the polynomial when it is taken times the simple one; nought of nought."""
+    if row and row[-1] < 0:
+        return -content(row)
+    return content(row)
+
+
+def lessened(row, by):
+    """The numbers of a polynomial, each by a number that divides them all."""
+    return [number // by for number in row]
+
+
 def simple(row):
     """The polynomial by its content, with a last number above nought; nought of nought."""
-    if not row:
-        return []
-    by = content(row)
-    if row[-1] < 0:
-        by = -by
-    return [number // by for number in row]
+    return lessened(row, signed_content(row))

@@ -1,6 +1,9 @@
 """Polynomials to test with, and the reckoning of the document told once more in the plainest way."""
 
+from fractions import Fraction
+from functools import reduce
 from itertools import product
+from math import gcd, lcm
 
 BIG = 10 ** 41 + 7
 HUNDRED = [(-1) ** power * (power + 1) for power in range(100)]
@@ -17,6 +20,11 @@ def small_rows(most_numbers, greatest):
             if numbers[-1] != 0:
                 rows.append(list(numbers))
     return rows
+
+
+def dense_row(length, step):
+    """So many numbers of forty figures and more, each unlike the others, of both signs."""
+    return [(BIG + step * (power + 3) ** 5) * (-1) ** (power * power * step // 2) for power in range(length)]
 
 
 SMALL = small_rows(3, 2)
@@ -47,3 +55,34 @@ def told_product(ones, others):
 
 def told_value(row, place):
     return sum(number * place ** power for power, number in enumerate(row))
+
+
+def told_raised(row, many):
+    return reduce(told_product, [row] * many, [1])
+
+
+def told_division(row, by):
+    """Quotient and rest in fractions: the rest of a lower power than the other one, which is not nought."""
+    rest = trimmed([Fraction(number) for number in row])
+    found = [Fraction(0)] * max(0, len(rest) - len(by) + 1)
+    while len(rest) >= len(by):
+        power = len(rest) - len(by)
+        found[power] = rest[-1] / by[-1]
+        rest = told_sum(rest, told_product([0] * power + [-found[power]], by))
+    return found, rest
+
+
+def told_simple(numbers):
+    """Whole numbers or fractions made simple: no common divisor, the last one above nought."""
+    if not numbers:
+        return []
+    whole = [int(number * lcm(*[Fraction(each).denominator for each in numbers])) for number in numbers]
+    by = gcd(*whole) if whole[-1] > 0 else -gcd(*whole)
+    return [number // by for number in whole]
+
+
+def told_common(ones, others):
+    """The greatest simple polynomial that divides both, by rests in fractions."""
+    while others:
+        ones, others = others, told_simple(told_division(ones, others)[1])
+    return told_simple(ones)

@@ -3,7 +3,7 @@
 import inspect
 import unittest
 
-from polyarith import contents, rows
+from polyarith import contents, division, meeting, notes, parts, rows
 
 LISTED = (
     (rows, "made", ["numbers"]),
@@ -17,6 +17,14 @@ LISTED = (
     (rows, "value", ["row", "place"]),
     (contents, "content", ["row"]),
     (contents, "simple", ["row"]),
+    (division, "divided", ["row", "by"]),
+    (division, "quotient", ["row", "by"]),
+    (meeting, "meet", ["ones", "others"]),
+    (parts, "parts", ["row"]),
+    (parts, "joined", ["number", "pairs"]),
+    (parts, "no_square", ["row"]),
+    (notes, "shown", ["row"]),
+    (notes, "read", ["line"]),
 )
 
 
